@@ -1,0 +1,1 @@
+"""Missing axioms: which hypotheses are sufficient for a subsumption of concepts."""
