@@ -46,6 +46,15 @@ def apply_call(target, reader):
         return target.keep(reader.row())
     if call == 4:
         return target.answers_of(reader.row())
+    if call == 5:
+        return target.cheapest(reader.row())
+    if call == 6:
+        chosen = reader.row()
+        return target.check(chosen, reader.row())
+    if call == 7:
+        return target.greatest()
+    if call == 8:
+        return target.take(reader.number())
     raise UnknownCall(f"no call has the number {call}")
 
 

@@ -1,4 +1,4 @@
-"""What follows from axioms and chosen hypotheses, and which sets of hypotheses explain it."""
+"""What follows from axioms and chosen hypotheses, which sets of hypotheses explain it, and which are compatible."""
 
 from missingaxioms.concepts import atoms_in
 from missingaxioms.profiles import Profiles
@@ -65,3 +65,13 @@ class Theory:
             if minimal and self.is_sufficient(chosen, first, second):
                 found.append(chosen)
         return found
+
+    def greatest_sets(self):
+        """The compatible sets of hypotheses that are not contained in any other compatible set, in order."""
+        found = []
+        # Larger sets come first: a compatible set that is not one of the greatest is within one of those found.
+        for chosen in reversed(ordered_sets(len(self.hypotheses))):
+            covered = any([is_within(chosen, larger) for larger in found])
+            if not covered and self.all_satisfiable(self.possible_with(chosen)):
+                found.append(chosen)
+        return list(reversed(found))

@@ -29,6 +29,22 @@ def answers_of(*concepts):
     return [4, len(concepts), *concepts]
 
 
+def cheapest(*concepts):
+    return [5, len(concepts), *concepts]
+
+
+def check(guesses, *concepts):
+    return [6, len(guesses), *guesses, len(concepts), *concepts]
+
+
+def greatest():
+    return [7]
+
+
+def take(index):
+    return [8, index]
+
+
 def run(*calls):
     """The result of each call."""
     given = answers(list(itertools.chain(*calls)))
@@ -45,6 +61,22 @@ def run(*calls):
 def last(*calls):
     """The result of the last call."""
     return run(*calls)[-1]
+
+
+def sets_of(result):
+    """The sets in a result of answers_of or greatest."""
+    assert result[0] >= 0
+    sets, place = [], 1
+    for _ in range(result[0]):
+        sets.append(result[place + 1:place + 1 + result[place]])
+        place += 1 + result[place]
+    assert place == len(result)
+    return sets
+
+
+def all_sets(count):
+    """All sets of the numbers below count, by size, then by first difference."""
+    return [list(chosen) for size in range(count + 1) for chosen in itertools.combinations(range(count), size)]
 
 
 def parse(numbers):
@@ -141,24 +173,6 @@ def satisfiable(concept, axioms):
     return can_stand([inward(concept), *everywhere], (), everywhere, [], set())
 
 
-def sufficient(axioms, protected, first, second):
-    if not all(satisfiable(concept, axioms) for concept in protected):
-        return False
-    return not satisfiable((3, first, (5, second)), axioms)
-
-
-def explanations(axioms, hypotheses, protected, first, second):
-    """All sufficient sets with no sufficient proper subset, by size, then by first difference."""
-    count = len(hypotheses)
-    found = []
-    for size in range(count + 1):
-        for chosen in itertools.combinations(range(count), size):
-            known = axioms + [hypotheses[number] for number in chosen]
-            if sufficient(known, protected, first, second):
-                found.append(chosen)
-    return [list(chosen) for chosen in found if not any(set(other) < set(chosen) for other in found)]
-
-
 def flat(sets):
     """A list of sets as a result has it."""
     result = [len(sets)]
@@ -171,32 +185,91 @@ class Expectation:
     """What the calls should give back, by the plain words of the document."""
 
     def __init__(self):
-        self.lists = {1: [], 2: [], 3: []}
+        self.axioms, self.hypotheses, self.prices, self.protected = [], [], [], []
 
     def count_atoms(self, more):
         found = set()
-        for concepts in [*self.lists[1], *self.lists[2], *self.lists[3], more]:
-            for concept in concepts:
-                found |= atoms(concept)
+        for concept in itertools.chain(*self.axioms, *self.hypotheses, self.protected, more):
+            found |= atoms(concept)
         return len(found)
+
+    def sets(self):
+        return all_sets(len(self.hypotheses))
+
+    def known(self, chosen):
+        return self.axioms + [self.hypotheses[number] for number in chosen]
+
+    def price(self, chosen):
+        return sum(self.prices[number] for number in chosen)
+
+    def compatible(self, chosen):
+        return all(satisfiable(concept, self.known(chosen)) for concept in self.protected)
+
+    def subsumed(self, chosen, first, second):
+        return not satisfiable((3, first, (5, second)), self.known(chosen))
+
+    def sufficient_sets(self, first, second):
+        compatible = [chosen for chosen in self.sets() if self.compatible(chosen)]
+        return [chosen for chosen in compatible if self.subsumed(chosen, first, second)]
+
+    def answers_of(self, first, second):
+        found = self.sufficient_sets(first, second)
+        return flat([chosen for chosen in found if not any(set(other) < set(chosen) for other in found)])
+
+    def cheapest(self, first, second):
+        # As each price is above 0, a sufficient set with the lowest price has no sufficient proper subset.
+        found = sorted((self.price(chosen), len(chosen), chosen) for chosen in self.sufficient_sets(first, second))
+        return [found[0][0], *found[0][2]] if found else [-6]
+
+    def check(self, chosen, first, second):
+        return [int(self.subsumed(chosen, first, second)), int(self.compatible(chosen)), self.price(chosen)]
+
+    def greatest(self):
+        found = [chosen for chosen in self.sets() if self.compatible(chosen)]
+        return flat([chosen for chosen in found if not any(set(other) > set(chosen) for other in found)])
+
+    def take(self, index):
+        if index not in range(len(self.hypotheses)):
+            return [-2]
+        if len(self.axioms) == 4:
+            return [-7]
+        self.axioms = [*self.axioms, self.hypotheses[index]]
+        self.hypotheses = self.hypotheses[:index] + self.hypotheses[index + 1:]
+        self.prices = self.prices[:index] + self.prices[index + 1:]
+        return [len(self.hypotheses)]
+
+    def add(self, number, call, concepts):
+        """The result of line, guess or keep, if the numbers handed in are as they have to be."""
+        place, most = {1: (self.axioms, 4), 2: (self.hypotheses, 4), 3: (self.protected, 2)}[number]
+        if len(place) == most or self.count_atoms(concepts) > 5:
+            return [-7]
+        place.append(concepts[0] if number == 3 else tuple(concepts))
+        if number == 2:
+            self.prices.append(call[1])
+        return [len(place) - 1]
 
     def apply(self, call):
         """The result of one call, written as a list of numbers."""
         number = call[0]
         if number == 0:
-            self.lists = {1: [], 2: [], 3: []}
+            self.__init__()
             return [0]
-        concepts = parse(call[3:] if number == 2 else call[2:])
+        if number == 7:
+            return self.greatest()
+        if number == 8:
+            return self.take(call[1])
+        chosen = call[2:2 + call[1]] if number == 6 else []
+        concepts = parse(call[(3 if number in (2, 6) else 2) + len(chosen):])
         if concepts is None or len(concepts) != (1 if number == 3 else 2):
             return [-1]
         if number == 2 and not 1 <= call[1] <= 1000:
             return [-1]
-        if number != 4 and len(self.lists[number]) == {1: 4, 2: 4, 3: 2}[number]:
-            return [-7]
+        if chosen not in self.sets():
+            return [-2]
+        if number < 4:
+            return self.add(number, call, concepts)
         if self.count_atoms(concepts) > 5:
             return [-7]
-        if number == 4:
-            protected = [concepts[0] for concepts in self.lists[3]]
-            return flat(explanations(self.lists[1], self.lists[2], protected, *concepts))
-        self.lists[number].append(concepts)
-        return [len(self.lists[number]) - 1]
+        if number == 6:
+            return self.check(chosen, *concepts)
+        return (self.answers_of if number == 4 else self.cheapest)(*concepts)

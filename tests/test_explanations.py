@@ -1,23 +1,11 @@
 """Which sets of hypotheses are explanations, and in which order they are given."""
 
-import random
 import unittest
 
-from helper import Expectation, answers_of, begins, guess, keep, last, line, run
+from helper import answers_of, guess, keep, last, line, sets_of
 
 A, B, C, D = (2, 0), (2, 1), (2, 2), (2, 3)
 ALL, NONE = (0,), (1,)
-
-
-def sets_of(result):
-    """The sets in a result of answers_of."""
-    assert result[0] >= 0
-    sets, place = [], 1
-    for _ in range(result[0]):
-        sets.append(result[place + 1:place + 1 + result[place]])
-        place += 1 + result[place]
-    assert place == len(result)
-    return sets
 
 
 class Sets(unittest.TestCase):
@@ -75,7 +63,7 @@ class Protection(unittest.TestCase):
         self.assertEqual(sets_of(last(*offered, keep(*C), keep(*D), asked)), [[2]])
 
     def test_protected_concepts_may_be_had_in_different_models(self):
-        # With the first hypothesis, no model has elements of both sorts.
+        # With the first hypothesis, no element has both protected concepts.
         offered = [guess(1, *A, 7, 0, *NONE), guess(1, *ALL, 6, 0, *ALL)]
         self.assertEqual(last(*offered, keep(*A), keep(6, 0, *ALL), answers_of(*A, 7, 0, *NONE)), [1, 1, 0])
         apart = [line(6, 0, *ALL, *NONE), guess(1, *A, *C), guess(1, *A, 5, *B)]
@@ -94,120 +82,6 @@ class Protection(unittest.TestCase):
     def test_contradictory_axioms_are_sufficient_without_protected_concepts(self):
         self.assertEqual(last(line(*ALL, *NONE), guess(1, *A, *B), answers_of(*ALL, *NONE)), [1, 0])
         self.assertEqual(last(line(*ALL, *NONE), keep(*ALL), answers_of(*ALL, *NONE)), [0])
-
-
-class RandomCalls(unittest.TestCase):
-    """Lists of calls made anew each time from the same beginnings, so always the same ones."""
-
-    def concept(self, source, depth):
-        head = source.choice((0, 1, 2, 2, 2, 2, 2, 3, 4, 5, 6, 7)) if depth else source.choice((0, 2, 2, 2))
-        if head in (0, 1):
-            return [head]
-        if head == 2:
-            return [2, source.randrange(source.choice((2, 3, 4)))]
-        if head in (3, 4):
-            return [head, *self.concept(source, depth - 1), *self.concept(source, depth - 1)]
-        if head == 5:
-            return [5, *self.concept(source, depth - 1)]
-        return [head, source.choice((0, 0, 1)), *self.concept(source, depth - 1)]
-
-    def pair(self, source):
-        numbers = self.concept(source, 2) + self.concept(source, 2)
-        if source.randrange(25) == 0:
-            numbers[source.randrange(len(numbers))] = source.randrange(9)
-        return numbers
-
-    def call(self, source):
-        chance = source.randrange(40)
-        if chance == 0:
-            return begins()
-        if chance < 10:
-            return line(*self.pair(source))
-        if chance < 22:
-            return guess(source.choice((1, 5, 1000, 1, 5, 1000, 0, 1001)), *self.pair(source))
-        if chance < 28:
-            return keep(*self.concept(source, 2))
-        return answers_of(*self.pair(source))
-
-    def calls(self, seed):
-        source = random.Random(seed)
-        calls = [self.call(source) for _ in range(source.randrange(1, 60))]
-        asked = [place for place, call in enumerate(calls) if call[0] == 4]
-        return [call for place, call in enumerate(calls) if place not in asked[5:]]
-
-    def pooled(self, source, pool, depth):
-        """A concept over the atoms of the pool."""
-        head = source.choice((2, 2, 2, 2, 3, 4, 5, 5)) if depth else 2
-        if head == 2:
-            return source.choice((*pool, *pool, *pool, *pool, [1]))
-        parts = [self.pooled(source, pool, depth - 1) for _ in range(1 if head == 5 else 2)]
-        return [head, *[number for part in parts for number in part]]
-
-    def pool(self, source):
-        """At most five atoms, with all that occur in them."""
-        pool = [[2, 0], [2, 1], *[[2, 2]][:source.randrange(2)]]
-        while len(pool) < 5:
-            pool.append([source.choice((6, 7)), source.choice((0, 0, 1)), *self.pooled(source, pool, 1)])
-        return pool
-
-    def dense_calls(self, seed):
-        """Few axioms, many hypotheses and questions, with atoms that are shared by all of them."""
-        source = random.Random(seed)
-        pool = self.pool(source)
-
-        def pair():
-            return self.pooled(source, pool, 1) + self.pooled(source, pool, 1)
-
-        calls = [line(*pair()) for _ in range(source.randrange(3))]
-        calls += [guess(source.randrange(1, 1001), *pair()) for _ in range(source.randrange(2, 5))]
-        asked = [answers_of(*pair()) for _ in range(2)]
-        return calls + asked + [keep(*self.pooled(source, pool, 1)), asked[0], keep(*source.choice(pool)), *asked]
-
-    def assert_by_the_plain_words(self, calls, seed):
-        expectation = Expectation()
-        results = run(*calls)
-        self.assertEqual(results, [expectation.apply(call) for call in calls], seed)
-        return results
-
-    def test_results_are_those_of_the_plain_words(self):
-        for seed in range(400):
-            self.assert_by_the_plain_words(self.calls(seed), seed)
-
-    def test_explanations_are_those_of_the_plain_words(self):
-        sizes = []
-        for seed in range(400):
-            calls = self.dense_calls(seed)
-            results = self.assert_by_the_plain_words(calls, seed)
-            for call, result in zip(calls, results):
-                if call[0] == 4 and result[0] > 0:
-                    sizes.extend([len(chosen) for chosen in sets_of(result)])
-        for size, least in enumerate((200, 100, 30, 0)):
-            self.assertGreater(sizes.count(size), least)
-
-    def test_calls_with_errors_change_nothing(self):
-        refused = 0
-        for seed in range(400, 600):
-            calls = self.calls(seed)
-            results = run(*calls)
-            kept = [place for place, result in enumerate(results) if result[0] >= 0]
-            refused += len(calls) - len(kept)
-            if kept:
-                self.assertEqual(run(*[calls[place] for place in kept]), [results[place] for place in kept], seed)
-        self.assertGreater(refused, 1000)
-
-    def test_an_additional_hypothesis_removes_no_explanation(self):
-        compared = 0
-        for seed in range(1000, 2000):
-            calls = self.dense_calls(seed)
-            guesses = [call for call in calls if call[0] == 2]
-            for question in [call for call in calls if call[0] == 4][:2]:
-                before = [call for call in calls if call[0] in (1, 3)] + guesses[:-1]
-                results = run(*before, question, guesses[-1], question)
-                found = sets_of(results[-1])
-                for chosen in sets_of(results[-3]):
-                    self.assertIn(chosen, found, seed)
-                    compared += len(chosen) > 0
-        self.assertGreater(compared, 100)
 
 
 if __name__ == "__main__":

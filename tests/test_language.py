@@ -122,6 +122,16 @@ class Language(unittest.TestCase):
             self.assertEqual((used | {node.attr for node in nodes_of(tree, ast.Attribute)}) & UNUSED, set(), name)
             self.assertEqual([word for word in [*used, *top] if not re.fullmatch("[A-Za-z][A-Za-z0-9_]*", word)], [])
 
+    def test_keywords(self):
+        allowed = {
+            "sorted": {"key", "reverse"}, "min": {"key", "default"}, "max": {"key", "default"}, "sum": {"start"},
+            "enumerate": {"start"}, "zip": {"strict"},
+        }
+        for name, tree in trees().items():
+            for call in nodes_of(tree, ast.Call):
+                called = call.func.id if isinstance(call.func, ast.Name) else ""
+                self.assertEqual({keyword.arg for keyword in call.keywords} - allowed.get(called, set()), set(), name)
+
     def test_methods_and_values_of_objects(self):
         methods, values, called = set(), set(), set()
         for tree in trees().values():
